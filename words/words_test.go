@@ -6,36 +6,21 @@ import (
 	"testing"
 
 	"reckoner/api"
+	"reckoner/internal/oracle"
 	"reckoner/words"
 )
 
 const (
-	top  = ^uint64(0) // the greatest word
-	half = uint64(1) << 63
+	top  = oracle.Top
+	half = oracle.Half
 )
 
-// edges are words at which carries begin and end.
-func edges() []uint64 {
-	return []uint64{0, 1, 3, half - 1, half, top - 1, top}
-}
-
-// words that follow one another without a pattern.
-type mixer uint64
-
-func (m *mixer) next() uint64 {
-	*m ^= *m << 13
-	*m ^= *m >> 7
-	*m ^= *m << 17
-	return uint64(*m)
-}
-
-func (m *mixer) row(n int) []uint64 {
-	row := make([]uint64, n)
-	for i := range row {
-		row[i] = m.next()
-	}
-	return row
-}
+var (
+	value = oracle.Value
+	power = oracle.Power
+	edges = oracle.Edges
+	short = oracle.Short
+)
 
 // rowsOf returns rows of n words: all rows of edges if they are short; otherwise rows of one edge, rows that begin or end with another word, and mixed ones.
 func rowsOf(n int) [][]uint64 {
@@ -64,8 +49,8 @@ func rowsOf(n int) [][]uint64 {
 			}
 		}
 	}
-	m := mixer(n)
-	return append(rows, m.row(n), m.row(n), m.row(n))
+	m := oracle.Mixer(n)
+	return append(rows, m.Row(n), m.Row(n), m.Row(n))
 }
 
 // lengths are the lengths of the rows that are tried with one another.
@@ -100,13 +85,8 @@ func eachRow(f func(x []uint64)) {
 
 // someWords returns the edges and a few other words.
 func someWords() []uint64 {
-	m := mixer(99)
-	return append(append(edges(), 2, 10, half+1, 1<<32, 1<<32-1), m.row(4)...)
-}
-
-// short is a row as it is shown in a test's message.
-func short(x []uint64) []uint64 {
-	return x[:min(len(x), 9)]
+	m := oracle.Mixer(99)
+	return append(append(edges(), 2, 10, half+1, 1<<32, 1<<32-1), m.Row(4)...)
 }
 
 // P1.1: x + y + carry = z + c B^n.
@@ -114,9 +94,9 @@ func TestAdd(t *testing.T) {
 	eachPair(func(x, y []uint64) {
 		for carry := range uint64(2) {
 			z, c, e := words.Add(x, y, carry)
-			want := value(x...).plus(value(y...)).plus(value(carry))
-			got := value(z...).plus(value(c).above(len(x)))
-			if e != api.OK || len(z) != len(x) || c > 1 || got.compare(want) != 0 {
+			want := value(x...).Plus(value(y...)).Plus(value(carry))
+			got := value(z...).Plus(value(c).Above(len(x)))
+			if e != api.OK || len(z) != len(x) || c > 1 || got.Compare(want) != 0 {
 				t.Errorf("Add(%x, %x, %d) = %x, %d, %d", short(x), short(y), carry, short(z), c, e)
 			}
 		}
@@ -128,9 +108,9 @@ func TestSub(t *testing.T) {
 	eachPair(func(x, y []uint64) {
 		for borrow := range uint64(2) {
 			z, c, e := words.Sub(x, y, borrow)
-			want := value(z...).plus(value(y...)).plus(value(borrow))
-			got := value(x...).plus(value(c).above(len(x)))
-			if e != api.OK || len(z) != len(x) || c > 1 || got.compare(want) != 0 {
+			want := value(z...).Plus(value(y...)).Plus(value(borrow))
+			got := value(x...).Plus(value(c).Above(len(x)))
+			if e != api.OK || len(z) != len(x) || c > 1 || got.Compare(want) != 0 {
 				t.Errorf("Sub(%x, %x, %d) = %x, %d, %d", short(x), short(y), borrow, short(z), c, e)
 			}
 		}
@@ -142,10 +122,10 @@ func TestNegate(t *testing.T) {
 	eachRow(func(x []uint64) {
 		z, some, e := words.Negate(x)
 		want := value()
-		if value(x...).compare(want) != 0 {
-			want = value(1).above(len(x))
+		if value(x...).Compare(want) != 0 {
+			want = value(1).Above(len(x))
 		}
-		if got := value(z...).plus(value(x...)); e != api.OK || len(z) != len(x) || some != (len(carried(want)) > 0) || got.compare(want) != 0 {
+		if got := value(z...).Plus(value(x...)); e != api.OK || len(z) != len(x) || some != (want.Compare(value()) > 0) || got.Compare(want) != 0 {
 			t.Errorf("Negate(%x) = %x, %v, %d", short(x), short(z), some, e)
 		}
 		s, borrow, _ := words.Sub(make([]uint64, len(x)), x, 0)
@@ -159,12 +139,12 @@ func TestNegate(t *testing.T) {
 func TestMulWord(t *testing.T) {
 	eachRow(func(x []uint64) {
 		for _, w := range someWords() {
-			product := value(x...).times(value(w))
+			product := value(x...).Times(value(w))
 			for _, add := range edges() {
 				z, h, e := words.MulWord(x, w, add)
-				want := product.plus(value(add))
-				got := value(z...).plus(value(h).above(len(x)))
-				if e != api.OK || len(z) != len(x) || got.compare(want) != 0 {
+				want := product.Plus(value(add))
+				got := value(z...).Plus(value(h).Above(len(x)))
+				if e != api.OK || len(z) != len(x) || got.Compare(want) != 0 {
 					t.Errorf("MulWord(%x, %x, %x) = %x, %x, %d", short(x), w, add, short(z), h, e)
 				}
 			}
@@ -176,11 +156,11 @@ func TestMulWord(t *testing.T) {
 func TestAddMulAndSubMul(t *testing.T) {
 	eachPair(func(z, x []uint64) {
 		for _, w := range edges() {
-			product := value(x...).times(value(w))
+			product := value(x...).Times(value(w))
 			a, h, e := words.AddMul(z, x, w)
-			want := value(z...).plus(product)
-			got := value(a...).plus(value(h).above(len(x)))
-			if e != api.OK || len(a) != len(z) || got.compare(want) != 0 {
+			want := value(z...).Plus(product)
+			got := value(a...).Plus(value(h).Above(len(x)))
+			if e != api.OK || len(a) != len(z) || got.Compare(want) != 0 {
 				t.Errorf("AddMul(%x, %x, %x) = %x, %x, %d", short(z), short(x), w, short(a), h, e)
 			}
 			back, g, e := words.SubMul(a, x, w)
@@ -188,9 +168,9 @@ func TestAddMulAndSubMul(t *testing.T) {
 				t.Errorf("SubMul(AddMul(%x, %x, %x)) = %x, %x, %d", short(z), short(x), w, short(back), g, e)
 			}
 			a, h, e = words.SubMul(z, x, w)
-			want = value(a...).plus(product)
-			got = value(z...).plus(value(h).above(len(x)))
-			if e != api.OK || len(a) != len(z) || got.compare(want) != 0 {
+			want = value(a...).Plus(product)
+			got = value(z...).Plus(value(h).Above(len(x)))
+			if e != api.OK || len(a) != len(z) || got.Compare(want) != 0 {
 				t.Errorf("SubMul(%x, %x, %x) = %x, %x, %d", short(z), short(x), w, short(a), h, e)
 			}
 		}
@@ -202,7 +182,7 @@ func TestWide(t *testing.T) {
 	for _, a := range someWords() {
 		for _, b := range someWords() {
 			high, low := words.Wide(a, b)
-			if value(low, high).compare(value(a).times(value(b))) != 0 {
+			if value(low, high).Compare(value(a).Times(value(b))) != 0 {
 				t.Errorf("Wide(%x, %x) = %x, %x", a, b, high, low)
 			}
 		}
@@ -218,9 +198,9 @@ func TestDivWord(t *testing.T) {
 			}
 			for _, high := range []uint64{0, w / 2, w - 1} {
 				q, r, e := words.DivWord(x, w, high)
-				got := value(q...).times(value(w)).plus(value(r))
-				want := value(x...).plus(value(high).above(len(x)))
-				if e != api.OK || len(q) != len(x) || r >= w || got.compare(want) != 0 {
+				got := value(q...).Times(value(w)).Plus(value(r))
+				want := value(x...).Plus(value(high).Above(len(x)))
+				if e != api.OK || len(q) != len(x) || r >= w || got.Compare(want) != 0 {
 					t.Errorf("DivWord(%x, %x, %x) = %x, %x, %d", short(x), w, high, short(q), r, e)
 				}
 			}
@@ -230,19 +210,19 @@ func TestDivWord(t *testing.T) {
 
 // P1.3: high B + low = q d + r, r < d; P1.6: ByReciprocal gives the same.
 func TestNarrowAndByReciprocal(t *testing.T) {
-	m := mixer(7)
-	divisors := append(someWords(), half+2, top/3, top/5*4, m.next()|half, m.next()|half)
+	m := oracle.Mixer(7)
+	divisors := append(someWords(), half+2, top/3, top/5*4, m.Next()|half, m.Next()|half)
 	for _, d := range divisors {
 		if d == 0 {
 			continue
 		}
-		for _, high := range []uint64{0, 1, d / 3, d / 2, d - d/3, d - 2, d - 1, m.next() % d} {
+		for _, high := range []uint64{0, 1, d / 3, d / 2, d - d/3, d - 2, d - 1, m.Next() % d} {
 			if high >= d {
 				continue
 			}
 			for _, low := range someWords() {
 				q, r, e := words.Narrow(high, low, d)
-				if e != api.OK || r >= d || value(q).times(value(d)).plus(value(r)).compare(value(low, high)) != 0 {
+				if e != api.OK || r >= d || value(q).Times(value(d)).Plus(value(r)).Compare(value(low, high)) != 0 {
 					t.Errorf("Narrow(%x, %x, %x) = %x, %x, %d", high, low, d, q, r, e)
 				}
 				v, e := words.Reciprocal(d)
@@ -259,13 +239,13 @@ func TestNarrowAndByReciprocal(t *testing.T) {
 
 // P1.6 again, where the guess of ByReciprocal is 1 too great or too small, which is seldom.
 func TestByReciprocalCorrects(t *testing.T) {
-	m := mixer(8)
+	m := oracle.Mixer(8)
 	for i := range 20000 {
-		d := m.next() | half
+		d := m.Next() | half
 		if i%2 == 1 { // near the least divisor the guess is too small sometimes
-			d = half + m.next()%16
+			d = half + m.Next()%16
 		}
-		high, low := m.next()%d, m.next()
+		high, low := m.Next()%d, m.Next()
 		if i%4 >= 2 {
 			high, low = d-1-high%8, top-low%8
 		}
@@ -285,16 +265,16 @@ func TestLeft(t *testing.T) {
 				continue
 			}
 			z, c, e := words.Left(x, s)
-			got := value(z...).plus(value(c).above(len(x)))
-			if e != api.OK || len(z) != len(x) || got.compare(value(x...).times(power(s))) != 0 {
+			got := value(z...).Plus(value(c).Above(len(x)))
+			if e != api.OK || len(z) != len(x) || got.Compare(value(x...).Times(power(s))) != 0 {
 				t.Errorf("Left(%x, %d) = %x, %x, %d", short(x), s, short(z), c, e)
 			}
 			if len(x) == 0 {
 				continue
 			}
 			back, out, e := words.Right(z, s)
-			whole := value(back...).plus(value(c).times(power(64*len(x) - s)))
-			if e != api.OK || out != 0 || whole.compare(value(x...)) != 0 {
+			whole := value(back...).Plus(value(c).Times(power(64*len(x) - s)))
+			if e != api.OK || out != 0 || whole.Compare(value(x...)) != 0 {
 				t.Errorf("Right(Left(%x, %d)) = %x, %x, %d", short(x), s, short(back), out, e)
 			}
 		}
@@ -309,8 +289,8 @@ func TestRight(t *testing.T) {
 				continue
 			}
 			z, c, e := words.Right(x, s)
-			got := value(z...).above(1).plus(value(c)).times(power(s))
-			if e != api.OK || len(z) != len(x) || got.compare(value(x...).above(1)) != 0 {
+			got := value(z...).Above(1).Plus(value(c)).Times(power(s))
+			if e != api.OK || len(z) != len(x) || got.Compare(value(x...).Above(1)) != 0 {
 				t.Errorf("Right(%x, %d) = %x, %x, %d", short(x), s, short(z), c, e)
 			}
 		}
@@ -321,7 +301,7 @@ func TestRight(t *testing.T) {
 func TestCmp(t *testing.T) {
 	eachPair(func(x, y []uint64) {
 		c, e := words.Cmp(x, y)
-		if want := value(x...).compare(value(y...)); e != api.OK || c != want {
+		if want := value(x...).Compare(value(y...)); e != api.OK || c != want {
 			t.Errorf("Cmp(%x, %x) = %d, %d, want %d", short(x), short(y), c, e, want)
 		}
 	})
@@ -330,10 +310,10 @@ func TestCmp(t *testing.T) {
 // P1.5: the bits of words with one, two or many bits 1.
 func TestCount(t *testing.T) {
 	list := someWords()
-	m := mixer(5)
+	m := oracle.Mixer(5)
 	for i := range 64 {
 		for j := range 64 {
-			list = append(list, 1<<i|1<<j, top<<i>>j, m.next()<<i>>j)
+			list = append(list, 1<<i|1<<j, top<<i>>j, m.Next()<<i>>j)
 		}
 	}
 	for _, w := range list {
@@ -353,8 +333,8 @@ func TestCount(t *testing.T) {
 
 // P1.6: w v = 1 modulo B, for odd words only.
 func TestInverse(t *testing.T) {
-	m := mixer(3)
-	list := append(someWords(), m.row(50)...)
+	m := oracle.Mixer(3)
+	list := append(someWords(), m.Row(50)...)
 	for w := range uint64(256) {
 		list = append(list, w, top-w)
 	}
@@ -366,8 +346,8 @@ func TestInverse(t *testing.T) {
 			}
 			continue
 		}
-		product := append(value(w).times(value(v)), make(number, 8)...)
-		if e != api.OK || product[:8].compare(value(1)) != 0 {
+		product := append(value(w).Times(value(v)), make(oracle.Number, 8)...)
+		if e != api.OK || product[:8].Compare(value(1)) != 0 {
 			t.Errorf("Inverse(%x) = %x, %d", w, v, e)
 		}
 	}
@@ -375,8 +355,8 @@ func TestInverse(t *testing.T) {
 
 // P1.6: floor((B^2 - 1) / d) - B, for words from 2^63 on.
 func TestReciprocal(t *testing.T) {
-	m := mixer(4)
-	list := append(someWords(), m.row(100)...)
+	m := oracle.Mixer(4)
+	list := append(someWords(), m.Row(100)...)
 	for i := range uint64(64) {
 		list = append(list, half+i, half+1<<i>>1, top-i, top-1<<i>>1, half-1-i)
 	}
@@ -388,9 +368,9 @@ func TestReciprocal(t *testing.T) {
 			}
 			continue
 		}
-		product := value(v, 1).times(value(d))
+		product := value(v, 1).Times(value(d))
 		greatest := value(top, top)
-		if e != api.OK || product.compare(greatest) > 0 || product.plus(value(d)).compare(greatest) <= 0 {
+		if e != api.OK || product.Compare(greatest) > 0 || product.Plus(value(d)).Compare(greatest) <= 0 {
 			t.Errorf("Reciprocal(%x) = %x, %d", d, v, e)
 		}
 	}
@@ -478,10 +458,10 @@ func TestErrorsOfWords(t *testing.T) {
 
 // P1.6: no word but the reciprocal itself is taken as one.
 func TestWrongReciprocals(t *testing.T) {
-	m := mixer(6)
-	for _, d := range []uint64{half, half + 1, half + half/2, top - 1, top, m.next() | half, m.next() | half} {
+	m := oracle.Mixer(6)
+	for _, d := range []uint64{half, half + 1, half + half/2, top - 1, top, m.Next() | half, m.Next() | half} {
 		right, _ := words.Reciprocal(d)
-		for _, v := range append(m.row(20), right-2, right-1, right+1, right+2, right^half, ^right, 0, 1, d, half, top) {
+		for _, v := range append(m.Row(20), right-2, right-1, right+1, right+2, right^half, ^right, 0, 1, d, half, top) {
 			if v == right {
 				continue
 			}
@@ -609,21 +589,14 @@ func TestRowsOfUnlikeLengths(t *testing.T) {
 	}
 }
 
-// framed returns a row that lies within a longer one, and the longer one.
-func framed(row []uint64) (inner, outer []uint64) {
-	outer = append([]uint64{11, 12}, row...)
-	outer = append(outer, 13, 14, 15)
-	return outer[2 : 2+len(row)], outer
-}
-
 // R4, R7: arguments are not changed, results are new memory, what lies beyond a row does not matter, and a call that is made again gives the same.
 func TestMemory(t *testing.T) {
-	m := mixer(2)
+	m := oracle.Mixer(2)
 	for _, c := range goodCalls() {
 		for _, n := range []int{0, 1, 2, 7} {
-			rowX, rowY := m.row(n), m.row(n)
-			x, outerX := framed(rowX)
-			y, outerY := framed(rowY)
+			rowX, rowY := m.Row(n), m.Row(n)
+			x, outerX := oracle.Framed(rowX)
+			y, outerY := oracle.Framed(rowY)
 			wasX, wasY := slices.Clone(outerX), slices.Clone(outerY)
 			z, w, e := c.do(x, y)
 			kept := slices.Clone(z)
