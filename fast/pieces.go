@@ -4,6 +4,7 @@ import (
 	"iter"
 
 	"reckoner/api"
+	"reckoner/internal/rows"
 	"reckoner/nat"
 )
 
@@ -22,7 +23,7 @@ func pieces(x api.Nat, n int) iter.Seq2[int, api.Nat] {
 	return func(yield func(int, api.Nat) bool) {
 		for at := 0; at < len(x); at += n {
 			end := min(at+n, len(x))
-			if !yield(at, used(x[at:end:end])) {
+			if !yield(at, rows.Used(x[at:end:end])) {
 				return
 			}
 		}
@@ -34,19 +35,19 @@ func halves(x api.Nat, n int) (low, high api.Nat) {
 	if len(x) <= n {
 		return x, nil
 	}
-	return used(x[:n:n]), x[n:len(x):len(x)]
+	return rows.Used(x[:n:n]), x[n:len(x):len(x)]
 }
 
 // Split returns the pieces of x of n words.
 func Split(x api.Nat, n int) ([]api.Nat, api.Errno) {
-	if e := checkSizes(x); e != api.OK {
+	if e := rows.CheckSizes(x); e != api.OK {
 		return nil, e
 	}
 	if outOfPiece(n) {
 		return nil, api.ErrArg
 	}
 	var l []api.Nat
-	for _, piece := range pieces(used(x), n) {
+	for _, piece := range pieces(rows.Used(x), n) {
 		l = append(l, nat.Trim(piece))
 	}
 	return l, api.OK
@@ -54,7 +55,7 @@ func Split(x api.Nat, n int) ([]api.Nat, api.Errno) {
 
 // Join returns the sum of l[i] B^(n i).
 func Join(l []api.Nat, n int) (api.Nat, api.Errno) {
-	if e := checkSizes(l...); e != api.OK {
+	if e := rows.CheckSizes(l...); e != api.OK {
 		return nil, e
 	}
 	if outOfPiece(n) || len(l) > maxPieces {
@@ -62,7 +63,7 @@ func Join(l []api.Nat, n int) (api.Nat, api.Errno) {
 	}
 	var terms []term
 	for i, x := range l {
-		x = used(x)
+		x = rows.Used(x)
 		switch {
 		case len(x) == 0: // at any place
 		case n*i+len(x) > api.MaxWords: // nothing takes away what is too large

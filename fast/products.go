@@ -2,6 +2,7 @@ package fast
 
 import (
 	"reckoner/api"
+	"reckoner/internal/rows"
 	"reckoner/nat"
 )
 
@@ -13,7 +14,7 @@ const (
 
 // checkLeast returns the error of numbers that are multiplied by a way that is told when to take them apart.
 func checkLeast(least int, l ...api.Nat) api.Errno {
-	if e := checkSizes(l...); e != api.OK {
+	if e := rows.CheckSizes(l...); e != api.OK {
 		return e
 	}
 	if least < minLeast || least > maxLeast {
@@ -24,7 +25,7 @@ func checkLeast(least int, l ...api.Nat) api.Errno {
 
 // product returns x y by a way that takes apart numbers of at least so many words.
 func product(x, y api.Nat, least int, way func(x, y api.Nat) api.Nat) (api.Nat, api.Errno) {
-	x, y = used(x), used(y)
+	x, y = rows.Used(x), rows.Used(y)
 	if min(len(x), len(y)) < least {
 		return nat.Mul(x, y)
 	}
@@ -55,7 +56,7 @@ func Square(x api.Nat, least int) (api.Nat, api.Errno) {
 	if e := checkLeast(least, x); e != api.OK {
 		return nil, e
 	}
-	x = used(x)
+	x = rows.Used(x)
 	if len(x) < least {
 		return nat.Square(x)
 	}
@@ -67,7 +68,7 @@ func Square(x api.Nat, least int) (api.Nat, api.Errno) {
 
 // Mul returns x y.
 func Mul(x, y api.Nat) (api.Nat, api.Errno) {
-	if e := checkSizes(x, y); e != api.OK {
+	if e := rows.CheckSizes(x, y); e != api.OK {
 		return nil, e
 	}
 	return product(x, y, karatsubaFrom, quick)
@@ -75,7 +76,7 @@ func Mul(x, y api.Nat) (api.Nat, api.Errno) {
 
 // LowMul returns what x y leaves by B^n.
 func LowMul(x, y api.Nat, n int) (api.Nat, api.Errno) {
-	if e := checkSizes(x, y); e != api.OK {
+	if e := rows.CheckSizes(x, y); e != api.OK {
 		return nil, e
 	}
 	if n < 0 || n > api.MaxWords {

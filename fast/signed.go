@@ -4,6 +4,7 @@ import (
 	"math/bits"
 
 	"reckoner/api"
+	"reckoner/internal/rows"
 )
 
 // sign tells on which side of 0 a number is.
@@ -29,7 +30,7 @@ func natural(x api.Nat) signed {
 
 // fromInt returns the value of x, in the same memory.
 func fromInt(x api.Int) signed {
-	return signed{sign{x.Neg}, used(x.Mag)}
+	return signed{sign{x.Neg}, rows.Used(x.Mag)}
 }
 
 // toInt returns v as a result, or ErrSize if it is too large. v is a sum: in memory of its own, and not less than 0 if it is 0.
@@ -64,46 +65,16 @@ func sum(terms ...term) signed {
 	for _, t := range terms {
 		size := uint64(max(t.weight, -t.weight))
 		if t.value.sign == (sign{t.weight < 0}) {
-			add(z[t.at:], t.value.words, size)
+			rows.Add(z[t.at:], t.value.words, size)
 		} else {
-			take(z[t.at:], t.value.words, size)
+			rows.Take(z[t.at:], t.value.words, size)
 		}
 	}
 	s := sign{z[length]>>63 == 1}
 	if s.minus {
 		negate(z)
 	}
-	return signed{s, used(z)}
-}
-
-// add adds x w to the row z, modulo what it holds.
-func add(z, x api.Nat, w uint64) {
-	var carry uint64
-	for i, v := range x {
-		high, low := bits.Mul64(v, w)
-		low, more := bits.Add64(low, carry, 0)
-		high += more
-		z[i], more = bits.Add64(z[i], low, 0)
-		carry = high + more
-	}
-	for i := len(x); i < len(z) && carry > 0; i++ {
-		z[i], carry = bits.Add64(z[i], carry, 0)
-	}
-}
-
-// take takes x w from the row z, modulo what it holds.
-func take(z, x api.Nat, w uint64) {
-	var borrow uint64
-	for i, v := range x {
-		high, low := bits.Mul64(v, w)
-		low, more := bits.Add64(low, borrow, 0)
-		high += more
-		z[i], more = bits.Sub64(z[i], low, 0)
-		borrow = high + more
-	}
-	for i := len(x); i < len(z) && borrow > 0; i++ {
-		z[i], borrow = bits.Sub64(z[i], borrow, 0)
-	}
+	return signed{s, rows.Used(z)}
 }
 
 // negate turns the row z into -z, modulo what it holds.

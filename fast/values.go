@@ -5,6 +5,7 @@ import (
 	"slices"
 
 	"reckoner/api"
+	"reckoner/internal/rows"
 )
 
 const (
@@ -35,7 +36,7 @@ var backDivisors = [5]uint64{1, 6, 2, 6, 1}
 // checkInts returns ErrSize if one of the integers has too many words, with those that are 0.
 func checkInts(l []api.Int) api.Errno {
 	for _, x := range l {
-		if e := checkSizes(x.Mag); e != api.OK {
+		if e := rows.CheckSizes(x.Mag); e != api.OK {
 			return e
 		}
 	}
@@ -84,7 +85,7 @@ func divided(v signed, d uint64) (signed, bool) {
 	for i := len(v.words) - 1; i >= 0; i-- {
 		v.words[i], rest = bits.Div64(rest, v.words[i], d)
 	}
-	return signed{v.sign, used(v.words)}, rest == 0
+	return signed{v.sign, rows.Used(v.words)}, rest == 0
 }
 
 // five returns the five values of the polynomial with the coefficients c.

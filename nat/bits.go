@@ -2,12 +2,13 @@ package nat
 
 import (
 	"reckoner/api"
+	"reckoner/internal/rows"
 	"reckoner/words"
 )
 
 // checkShift returns the error of a number and a number of bits by which it is shifted or cut.
 func checkShift(x api.Nat, s int) api.Errno {
-	if e := checkSizes(x); e != api.OK {
+	if e := rows.CheckSizes(x); e != api.OK {
 		return e
 	}
 	if s < 0 || s > api.MaxShift {
@@ -33,7 +34,7 @@ func Right(x api.Nat, s int) (api.Nat, api.Errno) {
 	}
 	kept := x[min(s/64, len(x)):]
 	z, _, _ := words.Right(kept, s%64)
-	return used(z), api.OK
+	return rows.Used(z), api.OK
 }
 
 // Low returns what x leaves by 2^s.
@@ -47,7 +48,7 @@ func Low(x api.Nat, s int) (api.Nat, api.Errno) {
 	}
 	z := append(api.Nat(nil), x[:cut+1]...)
 	z[cut] &= 1<<(s%64) - 1
-	return used(z), api.OK
+	return rows.Used(z), api.OK
 }
 
 // Bit tells whether the bit of 2^i is 1.
@@ -57,7 +58,7 @@ func Bit(x api.Nat, i int) bool {
 
 // SetBit returns x with the bit of 2^i as it is told.
 func SetBit(x api.Nat, i int, bit bool) (api.Nat, api.Errno) {
-	if e := checkSizes(x); e != api.OK {
+	if e := rows.CheckSizes(x); e != api.OK {
 		return nil, e
 	}
 	if i < 0 || i >= api.MaxShift {
@@ -69,7 +70,7 @@ func SetBit(x api.Nat, i int, bit bool) (api.Nat, api.Errno) {
 	if bit {
 		z[i/64] |= mask
 	}
-	return used(z), api.OK
+	return rows.Used(z), api.OK
 }
 
 // joint returns the function that joins the bits of two words as its sign says.
@@ -83,7 +84,7 @@ func joint(sign byte) func(v, w uint64) uint64 {
 
 // joined returns the number whose bits are those of x and y, joined as the sign says.
 func joined(x api.Nat, sign byte, y api.Nat) (api.Nat, api.Errno) {
-	if e := checkSizes(x, y); e != api.OK {
+	if e := rows.CheckSizes(x, y); e != api.OK {
 		return nil, e
 	}
 	n := max(len(x), len(y))
@@ -93,7 +94,7 @@ func joined(x api.Nat, sign byte, y api.Nat) (api.Nat, api.Errno) {
 	for i := range z {
 		z[i] = join(x[i], y[i])
 	}
-	return used(z), api.OK
+	return rows.Used(z), api.OK
 }
 
 // And returns the number with the bits 1 that both x and y have.

@@ -2,6 +2,7 @@ package nat
 
 import (
 	"reckoner/api"
+	"reckoner/internal/rows"
 )
 
 // maxItems is how many numbers a sum or a product of many may have.
@@ -12,7 +13,7 @@ func checkList(l []api.Nat) api.Errno {
 	if len(l) > maxItems {
 		return api.ErrArg
 	}
-	return checkSizes(l...)
+	return rows.CheckSizes(l...)
 }
 
 // joinAll joins z with one number after the other. None of them makes z less, so one that is too large on the way is so at the end.
@@ -42,7 +43,7 @@ func Product(l []api.Nat) (api.Nat, api.Errno) {
 	}
 	// A 0 makes the product 0, however large that of the others is.
 	for _, x := range l {
-		if len(used(x)) == 0 {
+		if len(rows.Used(x)) == 0 {
 			return nil, api.OK
 		}
 	}

@@ -5,6 +5,7 @@ import (
 	"math/bits"
 
 	"reckoner/api"
+	"reckoner/internal/rows"
 	"reckoner/words"
 )
 
@@ -90,10 +91,10 @@ func gathered(list iter.Seq[uint64], n int) (api.Nat, api.Errno) {
 
 // Mul returns x y.
 func Mul(x, y api.Nat) (api.Nat, api.Errno) {
-	if e := checkSizes(x, y); e != api.OK {
+	if e := rows.CheckSizes(x, y); e != api.OK {
 		return nil, e
 	}
-	x, y = used(x), used(y)
+	x, y = rows.Used(x), rows.Used(y)
 	if len(x) == 0 || len(y) == 0 {
 		return nil, api.OK
 	}
@@ -102,16 +103,16 @@ func Mul(x, y api.Nat) (api.Nat, api.Errno) {
 
 // Square returns x x.
 func Square(x api.Nat) (api.Nat, api.Errno) {
-	if e := checkSizes(x); e != api.OK {
+	if e := rows.CheckSizes(x); e != api.OK {
 		return nil, e
 	}
-	x = used(x)
+	x = rows.Used(x)
 	return gathered(squareWords(x), 2*len(x))
 }
 
 // Pow returns x to the power of k, for k from 0 to 10^6.
 func Pow(x api.Nat, k int) (api.Nat, api.Errno) {
-	if e := checkSizes(x); e != api.OK {
+	if e := rows.CheckSizes(x); e != api.OK {
 		return nil, e
 	}
 	if k < 0 || k > maxPower {

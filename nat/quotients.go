@@ -2,6 +2,7 @@ package nat
 
 import (
 	"reckoner/api"
+	"reckoner/internal/rows"
 	"reckoner/words"
 )
 
@@ -61,15 +62,15 @@ func long(x, y api.Nat) (q, r api.Nat) {
 		q[j] = takeWord(u[j:j+n+1], v)
 	}
 	r, _, _ = words.Right(u[:n], shift)
-	return used(q), used(r)
+	return rows.Used(q), rows.Used(r)
 }
 
 // DivMod returns quotient and remainder of x by y.
 func DivMod(x, y api.Nat) (q, r api.Nat, e api.Errno) {
-	if e := checkSizes(x, y); e != api.OK {
+	if e := rows.CheckSizes(x, y); e != api.OK {
 		return nil, nil, e
 	}
-	x, y = used(x), used(y)
+	x, y = rows.Used(x), rows.Used(y)
 	switch {
 	case len(y) == 0:
 		return nil, nil, api.ErrZero
@@ -86,5 +87,5 @@ func DivMod(x, y api.Nat) (q, r api.Nat, e api.Errno) {
 // DivWord returns quotient and remainder of x by w.
 func DivWord(x api.Nat, w uint64) (api.Nat, uint64, api.Errno) {
 	q, r, e := words.DivWord(x, w, 0)
-	return used(q), r, e
+	return rows.Used(q), r, e
 }

@@ -2,12 +2,13 @@ package nat
 
 import (
 	"reckoner/api"
+	"reckoner/internal/rows"
 	"reckoner/words"
 )
 
 // Add returns x + y.
 func Add(x, y api.Nat) (api.Nat, api.Errno) {
-	if e := checkSizes(x, y); e != api.OK {
+	if e := rows.CheckSizes(x, y); e != api.OK {
 		return nil, e
 	}
 	n := max(len(x), len(y))
@@ -20,7 +21,7 @@ func Add(x, y api.Nat) (api.Nat, api.Errno) {
 
 // Sub returns x - y, or ErrBelow if that is less than 0.
 func Sub(x, y api.Nat) (api.Nat, api.Errno) {
-	if e := checkSizes(x, y); e != api.OK {
+	if e := rows.CheckSizes(x, y); e != api.OK {
 		return nil, e
 	}
 	n := max(len(x), len(y))
@@ -28,5 +29,5 @@ func Sub(x, y api.Nat) (api.Nat, api.Errno) {
 	if borrow > 0 {
 		return nil, api.ErrBelow
 	}
-	return used(z), api.OK
+	return rows.Used(z), api.OK
 }

@@ -4,6 +4,7 @@ import (
 	"math/bits"
 
 	"reckoner/api"
+	"reckoner/internal/rows"
 	"reckoner/nat"
 )
 
@@ -49,7 +50,7 @@ func number[W word](l []W, size int) (api.Nat, api.Errno) {
 
 // Digits returns the digits of x in the base 2^bits, the last one not 0.
 func Digits(x api.Nat, bits int) ([]uint64, api.Errno) {
-	if e := checkSizes(x); e != api.OK {
+	if e := rows.CheckSizes(x); e != api.OK {
 		return nil, e
 	}
 	if !isDigitSize(bits) {
@@ -68,7 +69,7 @@ func Join(l []uint64, bits int) (api.Nat, api.Errno) {
 
 // Mul returns x y.
 func Mul(x, y api.Nat) (api.Nat, api.Errno) {
-	if e := checkSizes(x, y); e != api.OK {
+	if e := rows.CheckSizes(x, y); e != api.OK {
 		return nil, e
 	}
 	return number(longProduct(digits[residue](x, productBits), digits[residue](y, productBits)), productBits)
@@ -76,7 +77,7 @@ func Mul(x, y api.Nat) (api.Nat, api.Errno) {
 
 // Square returns x x.
 func Square(x api.Nat) (api.Nat, api.Errno) {
-	if e := checkSizes(x); e != api.OK {
+	if e := rows.CheckSizes(x); e != api.OK {
 		return nil, e
 	}
 	return number(longSquare(digits[residue](x, productBits)), productBits)
