@@ -1,4 +1,4 @@
-// Package oracle is for the project's tests. It calculates with natural numbers digit by digit, so that it owes nothing to the packages that are checked with it or to wide products of the machine, and makes rows of words to check them with.
+// Package oracle is for the project's tests. It calculates with natural numbers digit by digit, so that it owes nothing to the packages that are checked with it or to wide products of the machine, and makes rows of words to check them with. Long numbers are multiplied word by word, by what internal/rows has.
 package oracle
 
 import "cmp"

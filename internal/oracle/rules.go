@@ -47,6 +47,22 @@ func Same(a, b []api.Nat) bool {
 	return slices.EqualFunc(a, b, func(x, y api.Nat) bool { return slices.Equal(x, y) })
 }
 
+// Check reports a result that is not the canonical number that is wanted.
+func Check(t Reporter, got api.Nat, e api.Errno, want api.Nat, name string, args ...api.Nat) {
+	t.Helper()
+	if e != api.OK || !slices.Equal(got, want) {
+		t.Errorf("%s%s: error %d,%s; want%s", name, Shown(args...), e, Shown(got), Shown(want))
+	}
+}
+
+// Fails reports a result that is not this error beside zero values.
+func Fails(t Reporter, got []api.Nat, e, want api.Errno, name string, args ...api.Nat) {
+	t.Helper()
+	if e != want || slices.ContainsFunc(got, func(z api.Nat) bool { return len(z) > 0 }) {
+		t.Errorf("%s%s: error %d,%s; want error %d", name, Shown(args...), e, Shown(got...), want)
+	}
+}
+
 // spoil overwrites the memory of numbers, also beyond their ends.
 func spoil(l ...api.Nat) {
 	for _, x := range l {
@@ -77,9 +93,7 @@ func (c Call) CheckTooLong(t Reporter, l []api.Nat) {
 				with := slices.Clone(l)
 				with[i] = long
 				got, e := c.Do(with)
-				if e != api.ErrSize || slices.ContainsFunc(got, func(z api.Nat) bool { return len(z) > 0 }) {
-					t.Errorf("%s%s: error %d,%s; want error %d", c.Name, Shown(with...), e, Shown(got...), api.ErrSize)
-				}
+				Fails(t, got, e, api.ErrSize, c.Name, with...)
 			}
 		}
 	}
@@ -127,4 +141,53 @@ func (c Call) CheckMemory(t Reporter, l []api.Nat) {
 	if e2 != e || !Same(got, want) {
 		t.Errorf("%s%s: error %d,%s; before it was error %d,%s", c.Name, Shown(l...), e2, Shown(got...), e, Shown(want...))
 	}
+}
+
+// CheckShared checks that a call gives the same if its numbers are in the same memory: beginnings of a row, or all one of them.
+func (c Call) CheckShared(t Reporter, row api.Nat) {
+	t.Helper()
+	kept := slices.Clone(row)
+	for n := 1; n <= len(row); n += 1 + n/2 {
+		l := make([]api.Nat, c.Numbers)
+		for _, step := range []int{0, 1} {
+			for i := range l {
+				l[i] = row[:max(0, n-i*step)]
+			}
+			want, e := c.Do(Copies(l))
+			got, e2 := c.Do(l)
+			if e2 != e || !Same(got, want) || !slices.Equal(row, kept) {
+				t.Errorf("%s%s of shared memory: error %d,%s; want error %d,%s", c.Name, Shown(l...), e2, Shown(got...), e, Shown(want...))
+			}
+		}
+	}
+}
+
+// lists returns lists of so many of these numbers: each number at each place, with itself and with others.
+func lists(numbers int, some []api.Nat) [][]api.Nat {
+	var list [][]api.Nat
+	for i := range some {
+		for _, step := range []int{0, 1, 4, 9}[:min(4, 1+3*(numbers-1))] {
+			l := make([]api.Nat, numbers)
+			for k := range l {
+				l[k] = some[(i+k*step)%len(some)]
+			}
+			list = append(list, l)
+		}
+	}
+	return list
+}
+
+// CheckRules checks all these rules of a call, with lists of some numbers.
+func (c Call) CheckRules(t Reporter, some []api.Nat) {
+	t.Helper()
+	for i, l := range lists(c.Numbers, some) {
+		c.CheckResult(t, l)
+		c.CheckMemory(t, l)
+		if i%4 == 0 {
+			c.CheckTooLong(t, l)
+			c.CheckZeros(t, l)
+		}
+	}
+	mixer := Mixer(149)
+	c.CheckShared(t, mixer.Row(60))
 }

@@ -85,6 +85,78 @@ func TestRulesBroken(t *testing.T) {
 	}
 }
 
+// Calls of shared memory, and all rules at once: none is reported of a call that keeps them, and each of one that breaks it.
+func TestAllRules(t *testing.T) {
+	sum := func(l []api.Nat) ([]api.Nat, api.Errno) {
+		if tooLong(l) {
+			return nil, api.ErrSize
+		}
+		return []api.Nat{oracle.Plus(l[0], l[1])}, api.OK
+	}
+	for _, c := range []struct {
+		name string
+		want bool
+		do   func(l []api.Nat) ([]api.Nat, api.Errno)
+	}{
+		{"a call that keeps the rules", false, sum},
+		{"a result that depends on the memory", true, func(l []api.Nat) ([]api.Nat, api.Errno) {
+			if z, e := sum(l); len(l[0]) == 0 || len(l[1]) == 0 || &l[0][0] != &l[1][0] {
+				return z, e
+			}
+			return nil, api.ErrArg
+		}},
+		{"an argument that is returned", true, func(l []api.Nat) ([]api.Nat, api.Errno) {
+			z, e := sum(l)
+			if e == api.OK && len(z[0]) == len(l[0]) {
+				z[0] = l[0]
+			}
+			return z, e
+		}},
+		{"no error of a number that is too long", true, func(l []api.Nat) ([]api.Nat, api.Errno) { return nil, api.OK }},
+		{"a result that depends on zeros", true, func(l []api.Nat) ([]api.Nat, api.Errno) {
+			if tooLong(l) {
+				return nil, api.ErrSize
+			}
+			return []api.Nat{oracle.Plus(nil, api.Nat{uint64(len(l[1]))})}, api.OK
+		}},
+		{"a result that is not canonical", true, func(l []api.Nat) ([]api.Nat, api.Errno) {
+			if tooLong(l) {
+				return nil, api.ErrSize
+			}
+			return []api.Nat{{0}}, api.OK
+		}},
+	} {
+		var n counter
+		oracle.Call{Name: "a call", Numbers: 2, Do: c.do}.CheckRules(&n, []api.Nat{nil, {5, 6}, {7}, {1, 1}})
+		if n.reports > 0 != c.want {
+			t.Errorf("%s: %d reports", c.name, n.reports)
+		}
+	}
+}
+
+// Checks of a single result report just what is not as it should be.
+func TestCheckAndFails(t *testing.T) {
+	one, other := api.Nat{1}, api.Nat{2}
+	for _, c := range []struct {
+		name  string
+		check func(c *counter)
+		want  int
+	}{
+		{"the number", func(c *counter) { oracle.Check(c, one, api.OK, one, "a call") }, 0},
+		{"another number", func(c *counter) { oracle.Check(c, other, api.OK, one, "a call", one) }, 1},
+		{"a number that is not canonical", func(c *counter) { oracle.Check(c, api.Nat{1, 0}, api.OK, one, "a call") }, 1},
+		{"an error", func(c *counter) { oracle.Check(c, one, api.ErrArg, one, "a call") }, 1},
+		{"the error", func(c *counter) { oracle.Fails(c, []api.Nat{nil, {}}, api.ErrArg, api.ErrArg, "a call") }, 0},
+		{"another error", func(c *counter) { oracle.Fails(c, nil, api.ErrSize, api.ErrArg, "a call") }, 1},
+		{"a number beside the error", func(c *counter) { oracle.Fails(c, []api.Nat{nil, one}, api.ErrArg, api.ErrArg, "a call") }, 1},
+	} {
+		var n counter
+		if c.check(&n); n.reports != c.want {
+			t.Errorf("%s: %d reports", c.name, n.reports)
+		}
+	}
+}
+
 // What numbers look like.
 func TestShown(t *testing.T) {
 	if got := oracle.Shown(api.Nat{10, 11}, nil); got != " [a b of 2] [of 0]" {
