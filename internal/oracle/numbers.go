@@ -70,3 +70,18 @@ func Shapes(n int, m *Mixer) []api.Nat {
 		shape(Half, 0), append(api.Nat{3}, shape(Half, 0)[1:]...), shape(Half, Top), shape(Top, 0), Ones(n),
 	}
 }
+
+// Samples returns numbers of all kinds, of up to so many words: 0, also with words that are 0, all that have one or two words at which carries begin and end, and longer ones of all shapes.
+func Samples(most int, m *Mixer) []api.Nat {
+	list := []api.Nat{nil, {0, 0}, {2}, {6, 0}, {Top, 0, 0}}
+	for _, w := range Edges() {
+		list = append(list, api.Nat{w})
+		for _, v := range Edges()[1:] {
+			list = append(list, api.Nat{w, v})
+		}
+	}
+	for n := 3; n <= most; n += 1 + n/4 {
+		list = append(list, Shapes(n, m)...)
+	}
+	return list
+}

@@ -55,3 +55,23 @@ func TestShapes(t *testing.T) {
 		}
 	}
 }
+
+// Samples are of many lengths up to the greatest one, and no two of them are the same word by word.
+func TestSamples(t *testing.T) {
+	m := oracle.Mixer(11)
+	var lengths [9]int
+	list := oracle.Samples(8, &m)
+	for i, x := range list {
+		lengths[len(x)]++
+		for _, y := range list[:i] {
+			if slices.Equal(x, y) {
+				t.Errorf("samples, twice:%s", oracle.Shown(x))
+			}
+		}
+	}
+	for n, many := range lengths {
+		if (many > 0) != (n <= 4 || n%2 == 0) {
+			t.Errorf("%d samples of %d words", many, n)
+		}
+	}
+}

@@ -20,6 +20,19 @@ type Call struct {
 	Do      func(l []api.Nat) ([]api.Nat, api.Errno)
 }
 
+// OfTwo is a call of a function of two numbers.
+func OfTwo(name string, f func(x, y api.Nat) ([]api.Nat, api.Errno)) Call {
+	return Call{name, 2, func(l []api.Nat) ([]api.Nat, api.Errno) { return f(l[0], l[1]) }}
+}
+
+// Truth is b among the numbers of a result.
+func Truth(b bool) api.Nat {
+	if b {
+		return api.Nat{1}
+	}
+	return nil
+}
+
 // Shown is what numbers look like in a test's message: their first words, and how many words they have.
 func Shown(l ...api.Nat) string {
 	var s string

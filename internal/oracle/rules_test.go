@@ -163,3 +163,14 @@ func TestShown(t *testing.T) {
 		t.Errorf("Shown:%s", got)
 	}
 }
+
+// A call of two numbers takes them in order.
+func TestOfTwo(t *testing.T) {
+	c := oracle.OfTwo("a call", func(x, y api.Nat) ([]api.Nat, api.Errno) {
+		return []api.Nat{x, y, oracle.Truth(true), oracle.Truth(false)}, api.ErrArg
+	})
+	l := []api.Nat{{5}, {6}}
+	if got, e := c.Do(l); c.Name != "a call" || c.Numbers != 2 || e != api.ErrArg || !oracle.Same(got, append(l, api.Nat{1}, nil)) {
+		t.Errorf("a call of two numbers: error %d,%s", e, oracle.Shown(got...))
+	}
+}
